@@ -156,6 +156,11 @@ func combineFrac(a, b Frac, operation func(Frac) (Frac, int64)) (Frac, int64) {
 	return operation(b)
 }
 
+// wholeFrac returns the fraction of an integer, which is valid if n is at most MaxNum either way.
+func wholeFrac(n int64) Frac { return Frac{Num: n, Den: 1} }
+
+func (f Frac) negative() Frac { return Frac{Num: -f.Num, Den: f.Den} }
+
 func (f Frac) plus(g Frac) (Frac, int64) {
 	return MakeFrac(f.Num*g.Den+g.Num*f.Den, f.Den*g.Den)
 }
@@ -169,7 +174,7 @@ func (f Frac) times(g Frac) (Frac, int64) {
 }
 
 func (f Frac) over(g Frac) (Frac, int64) {
-	if g == (Frac{Num: 0, Den: 1}) {
+	if g == wholeFrac(0) {
 		return Frac{}, ErrRange
 	}
 	return MakeFrac(f.Num*g.Den, f.Den*g.Num)
