@@ -161,6 +161,9 @@ func wholeFrac(n int64) Frac { return Frac{Num: n, Den: 1} }
 
 func (f Frac) negative() Frac { return Frac{Num: -f.Num, Den: f.Den} }
 
+// absolute returns the absolute value of a valid fraction.
+func (f Frac) absolute() Frac { return Frac{Num: max(f.Num, -f.Num), Den: f.Den} }
+
 func (f Frac) plus(g Frac) (Frac, int64) {
 	return MakeFrac(f.Num*g.Den+g.Num*f.Den, f.Den*g.Den)
 }
