@@ -481,8 +481,8 @@ func wantedRound(r region, hot []pt) region {
 	return next
 }
 
-// wantedRounds returns the region without points that are followed by an equal one, and what the rounds lead to.
-func wantedRounds(r region) []region {
+// plainOf returns the region without points that are followed by an equal one, and without rings of which no point remains.
+func plainOf(r region) region {
 	var plain region
 	for _, g := range r.Rings {
 		var list []pt
@@ -495,7 +495,12 @@ func wantedRounds(r region) []region {
 			plain.Rings = append(plain.Rings, ringOf(list...))
 		}
 	}
-	hot, all := wantedHot(edgesOf(plain.Rings...)), []region{plain}
+	return plain
+}
+
+// roundsWith returns a plain region, and what each round with some hot points makes of it, up to one that is not valid.
+func roundsWith(plain region, hot []pt) []region {
+	all := []region{plain}
 	for {
 		last := all[len(all)-1]
 		next := wantedRound(last, hot)
@@ -507,6 +512,12 @@ func wantedRounds(r region) []region {
 			return all
 		}
 	}
+}
+
+// wantedRounds returns the region without points that are followed by an equal one, and what the rounds lead to.
+func wantedRounds(r region) []region {
+	plain := plainOf(r)
+	return roundsWith(plain, wantedHot(edgesOf(plain.Rings...)))
 }
 
 // isSnapped reports whether edges have no common points but one equal end, or the same two ends, by the words of the document.
