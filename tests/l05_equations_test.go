@@ -594,6 +594,7 @@ func TestLinearExact(t *testing.T) {
 
 // TestEquateExact holds ReduceLinear and Equate against the steps of the document with numbers of any size.
 func TestEquateExact(t *testing.T) {
+	t.Parallel()
 	random := fixedRandom()
 	found := map[string]int{}
 	for _, c := range trials() {
@@ -732,6 +733,7 @@ func trueEquation(random *rand.Rand, names []string, truth map[string]frac) (lin
 
 // TestTrueEquations is promise 6: a system says exactly what follows from true equations, whatever they are, and tells the redundant and the false ones.
 func TestTrueEquations(t *testing.T) {
+	t.Parallel()
 	random := fixedRandom()
 	names := []string{"a", "b", "b.x", "b.y", "c", "d1", "d2"}
 	kinds := map[int64]int{}

@@ -694,6 +694,7 @@ func checkStatementText(t *testing.T, random *rand.Rand, tokens []string, found 
 
 // TestReadSumsRandom reads sums whose parts come several times, with signs and with errors of the arithmetic.
 func TestReadSumsRandom(t *testing.T) {
+	t.Parallel()
 	random := fixedRandom()
 	found := map[int64]int{}
 	names := numbered("t", 20)
@@ -1007,6 +1008,7 @@ func overwriteStatement(s statement) {
 
 // TestLanguageKeepsArguments is promise 1 for the memory of arguments and results.
 func TestLanguageKeepsArguments(t *testing.T) {
+	t.Parallel()
 	random := fixedRandom()
 	for range 200 {
 		var list []statement

@@ -223,6 +223,7 @@ func wideCubics(random *rand.Rand) []cubic {
 }
 
 func TestQuadsOfCubic(t *testing.T) {
+	t.Parallel()
 	cases := []struct {
 		c         cubic
 		tolerance int64
@@ -847,6 +848,7 @@ func randomPath(random *rand.Rand) []cubic {
 }
 
 func TestLoopOfCubicsRandom(t *testing.T) {
+	t.Parallel()
 	random := fixedRandom()
 	found := map[int64]int{}
 	for range 2000 {
@@ -1073,6 +1075,7 @@ func outlineMemory(o outline) string {
 
 // TestOutlinesTotal is promise 1 for chapter 10: all functions return for all arguments, twice alike, in new memory, and keep their arguments.
 func TestOutlinesTotal(t *testing.T) {
+	t.Parallel()
 	random := fixedRandom()
 	quads, cubics := append(badQuads(), goodQuads(40)...), append(badCubics(), manyCubics(40)...)
 	outlines, numbers := append(badOutlines(), manyOutlines(100)...), extremeNumbers()

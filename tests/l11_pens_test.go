@@ -586,6 +586,7 @@ func checkExtents(t *testing.T, a, b, sum, all []pt) {
 }
 
 func TestExtentsOfSums(t *testing.T) {
+	t.Parallel()
 	random := fixedRandom()
 	pens := somePens()
 	found, lengths := map[int64]int{}, map[int]int{}

@@ -676,6 +676,7 @@ func TestSnapRegion(t *testing.T) {
 
 // TestSnapRegionsSmall checks all pairs of segments of a small grid, and all rings of four points of it.
 func TestSnapRegionsSmall(t *testing.T) {
+	t.Parallel()
 	counts, random := newSnapCounts(), fixedRandom()
 	grid := gridPts(0, 2)
 	for i, a := range grid {
@@ -698,6 +699,7 @@ func TestSnapRegionsSmall(t *testing.T) {
 }
 
 func TestSnapRegionsRandom(t *testing.T) {
+	t.Parallel()
 	counts, random := newSnapCounts(), fixedRandom()
 	for range 900 {
 		counts.checkSnap(t, random, randomRegion(random))
@@ -718,6 +720,7 @@ func bowTies(count int) []ring {
 
 // TestSnapRegionLimits is about the number of edges after each round.
 func TestSnapRegionLimits(t *testing.T) {
+	t.Parallel()
 	inRow := ringOf(points("0,0 1,0 2,0 3,0 4,0 5,0 6,0 7,0 8,0 9,0")...)
 	twice := func(more int) region {
 		return region{Rings: []ring{ringOf(points("18,2 12,2 16,2 0,0")...), comb(more, 50, 50)}}
@@ -1005,6 +1008,7 @@ func randomArrangement(random *rand.Rand, regions []region, numbers []int64) arr
 
 // TestArrangementsTotal is promise 1 for chapter 13: all functions return for all arguments, twice alike, in new memory, and keep their arguments.
 func TestArrangementsTotal(t *testing.T) {
+	t.Parallel()
 	random, numbers := fixedRandom(), extremeNumbers()
 	regions := append(badRegions(), manyRegions(150)...)
 	for range 1500 {

@@ -303,6 +303,7 @@ func TestNetEdges(t *testing.T) {
 }
 
 func TestNetEdgesRandom(t *testing.T) {
+	t.Parallel()
 	nets, sides := map[int64]int{}, map[int64]int{}
 	for _, r := range manyRegions(700) {
 		checkNetEdges(t, r)
@@ -678,6 +679,7 @@ func TestRemoveOverlapSmall(t *testing.T) {
 }
 
 func TestRemoveOverlapRandom(t *testing.T) {
+	t.Parallel()
 	random, rings := fixedRandom(), map[int]int{}
 	for range 1500 {
 		r, _ := checkRemoval(t, randomRegion(random))
@@ -694,6 +696,7 @@ func TestRemoveOverlapRandom(t *testing.T) {
 }
 
 func TestCombineRegionsRandom(t *testing.T) {
+	t.Parallel()
 	counts, random := newCombineCounts(), fixedRandom()
 	for range 450 {
 		counts.checkCombine(t, random, randomRegion(random), randomRegion(random))
@@ -816,6 +819,7 @@ func numberOf(is bool) int64 {
 
 // TestCells combines sets of squares, most of which touch at sides or corners.
 func TestCells(t *testing.T) {
+	t.Parallel()
 	random := fixedRandom()
 	grilles := []grille{{at(1, 0), at(0, 1)}, {at(0, 1), at(-1, 0)}, {at(7, 3), at(-2, 8)}, {at(-9, 0), at(5, -4)}, {at(1, 1), at(-1, 1)}, {at(900, 0), at(-1000, 800)}, {at(-3, 11), at(-13, -2)}}
 	most := 0
@@ -1048,6 +1052,7 @@ func (r combineResults) overwriteResults(t *testing.T) {
 
 // TestCombinationsTotal is promise 1 for chapter 14: all functions return for all arguments, twice alike, in new memory, and keep their arguments.
 func TestCombinationsTotal(t *testing.T) {
+	t.Parallel()
 	random, numbers := fixedRandom(), extremeNumbers()
 	regions := append(badRegions(), manyRegions(300)...)
 	for _, lines := range []string{"0,0 9,0 9,9 0,9 0,0 2,5 5,2", "0,0 4,0 4,4 0,4;4,4 8,4 8,8 4,8", "0,0 9,0 9,9 0,9;3,3 3,6 6,6 6,3"} {
